@@ -1,0 +1,25 @@
+package ways
+
+import (
+	"strings"
+	"testing"
+)
+
+// built has, of each package that is built, the ways of the language that the document's section 'Ways' asks for.
+var built = []struct{ name, ways string }{
+	{"octet", "range-string rune closure"},
+	{"digits", "range-string rune array"},
+}
+
+// The Ways: each package has its own in what its exported functions reach.
+func TestWays(t *testing.T) {
+	for _, p := range built {
+		miss, err := WaysMissing("..", "abutment", []string{p.name}, strings.Fields(p.ways))
+		if err != nil {
+			t.Fatal(p.name, err)
+		}
+		for _, m := range miss {
+			t.Errorf("%s: way missing: %s", p.name, m)
+		}
+	}
+}
