@@ -9,6 +9,9 @@ import (
 var built = []struct{ name, ways string }{
 	{"octet", "range-string rune closure"},
 	{"digits", "range-string rune array"},
+	{"queue", "copy three-index"},
+	{"cursor", "method-value rune range-string"},
+	{"civil", "array closure"},
 }
 
 // The Ways: each package has its own in what its exported functions reach.
