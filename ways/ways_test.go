@@ -12,6 +12,12 @@ var built = []struct{ name, ways string }{
 	{"queue", "copy three-index"},
 	{"cursor", "method-value rune range-string"},
 	{"civil", "array closure"},
+	{"httpdate", "range-string rune array"},
+	{"lists", "range-function closure variadic"},
+	{"field", "closure variadic"},
+	{"table", "generic-type generic-function"},
+	{"clock", "map range-map delete closure"},
+	{"act", "interface assertion type-switch method-expression recover defer"},
 }
 
 // The Ways: each package has its own in what its exported functions reach.
