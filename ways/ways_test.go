@@ -17,6 +17,10 @@ var built = []struct{ name, ways string }{
 	{"field", "closure variadic"},
 	{"table", "generic-type generic-function"},
 	{"clock", "map range-map delete closure"},
+	{"params", "closure range-integer"},
+	{"header", "variadic closure copy"},
+	{"host", "range-string rune"},
+	{"tally", "generic-type range-function map closure"},
 	{"act", "interface assertion type-switch method-expression recover defer"},
 }
 
