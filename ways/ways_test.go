@@ -21,6 +21,14 @@ var built = []struct{ name, ways string }{
 	{"header", "variadic closure copy"},
 	{"host", "range-string rune"},
 	{"tally", "generic-type range-function map closure"},
+	{"target", "closure"},
+	{"config", "array range-integer"},
+	{"chunk", "closure rune range-string"},
+	{"start", "closure"},
+	{"length", "range-function closure"},
+	{"coding", "closure variadic"},
+	{"datefix", "array closure range-integer"},
+	{"canon", "range-string rune closure map"},
 	{"act", "interface assertion type-switch method-expression recover defer"},
 }
 
