@@ -29,6 +29,14 @@ var built = []struct{ name, ways string }{
 	{"coding", "closure variadic"},
 	{"datefix", "array closure range-integer"},
 	{"canon", "range-string rune closure map"},
+	{"lines", "method-value"},
+	{"connection", "closure"},
+	{"via", "closure variadic"},
+	{"cache", "closure variadic"},
+	{"trailer", "array closure range-integer"},
+	{"hostfix", "closure"},
+	{"link", "embedding promoted array"},
+	{"diff", "array iota closure three-index"},
 	{"act", "interface assertion type-switch method-expression recover defer"},
 }
 
