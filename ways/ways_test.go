@@ -37,6 +37,11 @@ var built = []struct{ name, ways string }{
 	{"hostfix", "closure"},
 	{"link", "embedding promoted array"},
 	{"diff", "array iota closure three-index"},
+	{"head", "embedding promoted variadic"},
+	{"framing", "struct-compared closure"},
+	{"hop", "closure variadic array"},
+	{"cachefix", "closure"},
+	{"wire", "embedding promoted closure"},
 	{"act", "interface assertion type-switch method-expression recover defer"},
 }
 
