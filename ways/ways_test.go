@@ -42,6 +42,10 @@ var built = []struct{ name, ways string }{
 	{"hop", "closure variadic array"},
 	{"cachefix", "closure"},
 	{"wire", "embedding promoted closure"},
+	{"body", "method-value closure assertion function-field"},
+	{"encode", "variadic closure range-function"},
+	{"refusal", "closure array"},
+	{"plan", "closure"},
 	{"act", "interface assertion type-switch method-expression recover defer"},
 }
 
