@@ -46,6 +46,9 @@ var built = []struct{ name, ways string }{
 	{"encode", "variadic closure range-function"},
 	{"refusal", "closure array"},
 	{"plan", "closure"},
+	{"message", "closure type-switch assertion interface"},
+	{"reader", "embedding closure iota"},
+	{"relay", "type-switch interface assertion embedding"},
 	{"act", "interface assertion type-switch method-expression recover defer"},
 }
 
