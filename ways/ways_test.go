@@ -49,6 +49,8 @@ var built = []struct{ name, ways string }{
 	{"message", "closure type-switch assertion interface"},
 	{"reader", "embedding closure iota"},
 	{"relay", "type-switch interface assertion embedding"},
+	{"outreq", "closure variadic"},
+	{"outres", "closure function-field variadic"},
 	{"act", "interface assertion type-switch method-expression recover defer"},
 }
 
