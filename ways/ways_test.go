@@ -51,6 +51,7 @@ var built = []struct{ name, ways string }{
 	{"relay", "type-switch interface assertion embedding"},
 	{"outreq", "closure variadic"},
 	{"outres", "closure function-field variadic"},
+	{"relate", "closure array struct-compared"},
 	{"act", "interface assertion type-switch method-expression recover defer"},
 }
 
