@@ -52,6 +52,7 @@ var built = []struct{ name, ways string }{
 	{"outreq", "closure variadic"},
 	{"outres", "closure function-field variadic"},
 	{"relate", "closure array struct-compared"},
+	{"bridge", "iota closure embedding"},
 	{"act", "interface assertion type-switch method-expression recover defer"},
 }
 
