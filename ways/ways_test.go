@@ -53,6 +53,7 @@ var built = []struct{ name, ways string }{
 	{"outres", "closure function-field variadic"},
 	{"relate", "closure array struct-compared"},
 	{"bridge", "iota closure embedding"},
+	{"proxy", "map range-function closure struct-compared"},
 	{"act", "interface assertion type-switch method-expression recover defer"},
 }
 
