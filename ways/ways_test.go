@@ -54,6 +54,8 @@ var built = []struct{ name, ways string }{
 	{"relate", "closure array struct-compared"},
 	{"bridge", "iota closure embedding"},
 	{"proxy", "map range-function closure struct-compared"},
+	{"script", "range-string rune closure assertion"},
+	{"audit", "closure range-function struct-compared"},
 	{"act", "interface assertion type-switch method-expression recover defer"},
 }
 
