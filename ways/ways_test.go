@@ -56,6 +56,7 @@ var built = []struct{ name, ways string }{
 	{"proxy", "map range-function closure struct-compared"},
 	{"script", "range-string rune closure assertion"},
 	{"audit", "closure range-function struct-compared"},
+	{"play", "type-switch assertion interface variadic"},
 	{"act", "interface assertion type-switch method-expression recover defer"},
 }
 
