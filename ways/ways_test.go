@@ -57,6 +57,8 @@ var built = []struct{ name, ways string }{
 	{"script", "range-string rune closure assertion"},
 	{"audit", "closure range-function struct-compared"},
 	{"play", "type-switch assertion interface variadic"},
+	{"drill", "embedding promoted closure range-integer"},
+	{"shell", "closure range-function array"},
 	{"act", "interface assertion type-switch method-expression recover defer"},
 }
 
