@@ -216,6 +216,9 @@ func TestArguments(t *testing.T) {
 			t.Error("close")
 		}
 	}
+	for _, l := range []api.Limits{{}, {Head: api.MaxHead, Line: api.MaxHead}, {Head: 5}, {Line: 5}} {
+		feed(t, New(sized(1), l), "xy", 1, data("x"), over)
+	}
 	for _, d := range []*Decoder{nil, {}} {
 		feed(t, d, "x", 0)
 		state(t, d, false, api.OK)

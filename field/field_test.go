@@ -58,7 +58,7 @@ func TestUnfold(t *testing.T) {
 		{0, nil, nil, api.OK}, {0, []string{"a", "", "b"}, []string{"a", "", "b"}, api.OK}, {0, []string{"a", " b"}, nil, api.ErrForm}, {0, []string{"a", "\tb"}, nil, api.ErrForm}, {0, []string{" a"}, nil, api.ErrForm},
 		{1, []string{" a"}, nil, api.ErrForm}, {1, []string{"\t"}, nil, api.ErrForm}, {1, []string{"a", "\tb"}, []string{"a b"}, api.OK}, {-1, []string{"a", " b"}, []string{"a b"}, api.OK}, {math.MaxInt, []string{"a", " b"}, []string{"a b"}, api.OK},
 		{1, []string{"a \t", "  b ", "\t c\t", "d"}, []string{"a b c", "d"}, api.OK}, {1, []string{"a", " "}, []string{"a "}, api.OK}, {1, []string{"a", " ", " b"}, []string{"a b"}, api.OK}, {1, []string{"", " x", " y"}, []string{" x y"}, api.OK},
-		{1, []string{"a", "\nb"}, []string{"a", "\nb"}, api.OK}, {1, []string{"a ", "b "}, []string{"a ", "b "}, api.OK}, {1, []string{"a", " b", "c", " d"}, []string{"a b", "c d"}, api.OK},
+		{1, []string{"a", "\nb"}, []string{"a", "\nb"}, api.OK}, {1, []string{"a ", "b "}, []string{"a ", "b "}, api.OK}, {1, []string{"aQ", "Qb", " Qc"}, []string{"aQ", "Qb Qc"}, api.OK}, {1, []string{"a", " b", "c", " d"}, []string{"a b", "c d"}, api.OK},
 	} {
 		kept := slices.Clone(c.lines)
 		if got, e := Unfold(c.fold, c.lines...); !slices.Equal(got, c.want) || e != c.e {

@@ -50,6 +50,7 @@ func TestForms(t *testing.T) {
 		"", "sun, 06 Nov 1994 08:49:37 GMT", "SUN, 06 Nov 1994 08:49:37 GMT", "Sun, 6 Nov 1994 08:49:37 GMT", "Sun,  6 Nov 1994 08:49:37 GMT", "Sun, 06 nov 1994 08:49:37 GMT", "Sun, 06 Nov 1994 08:49:37 UTC", "Sun, 06 Nov 1994 8:49:37 GMT",
 		"Sun, 06 Nov 94 08:49:37 GMT", "Sunday, 06-Nov-1994 08:49:37 GMT", "Sunday, 06 Nov 1994 08:49:37 GMT", "Sun, 06-Nov-94 08:49:37 GMT", "Sunday,  6-Nov-94 08:49:37 GMT", "Sun Nov 6 08:49:37 1994", "Sun Nov    08:49:37 1994", "Sun Nov  6 08:49:37 94",
 		"Sun Nov  6 08:49:37 1994 GMT", " Sun, 06 Nov 1994 08:49:37 GMT", "Sun, 06 Nov 1994 08:49:37 GMT ", "Sun, +6 Nov 1994 08:49:37 GMT", "Sun, 06 Nov -994 08:49:37 GMT", "Sun, 06 Nov 1994 08:49: 7 GMT", "Funday, 06-Nov-94 08:49:37 GMT",
+		", 06 Nov 1994 08:49:37 GMT", "Sun, 06  1994 08:49:37 GMT", ", 06-Nov-94 08:49:37 GMT", " Nov  6 08:49:37 1994",
 	} {
 		if n, f, e := Parse(s, 0); n != 0 || f != 0 || e != api.ErrForm {
 			t.Errorf("%q: %d %d %d", s, n, f, e)

@@ -15,7 +15,7 @@ func TestSplit(t *testing.T) {
 		{"", nil}, {" ", nil}, {",", nil}, {" , ,\t", nil}, {"a", []string{"a"}}, {" a , b\t,c ", []string{"a", "b", "c"}}, {"a,,b,", []string{"a", "b"}}, {"a b", []string{"a b"}},
 		{`a, "b,c" (d,e),,f`, []string{"a", `"b,c" (d,e)`, "f"}}, {`"a,b"`, []string{`"a,b"`}}, {`"a\",b",c`, []string{`"a\",b"`, "c"}}, {`"a\\",b`, []string{`"a\\"`, "b"}}, {`""`, []string{`""`}}, {`"",()`, []string{`""`, "()"}},
 		{"(a,(b,c),d),e", []string{"(a,(b,c),d)", "e"}}, {`("),a`, []string{`(")`, "a"}}, {`"(",a`, []string{`"("`, "a"}}, {`")",a`, []string{`")"`, "a"}}, {`(a\),b),c`, []string{`(a\),b)`, "c"}}, {`(\(),a`, []string{`(\()`, "a"}},
-		{"),a", []string{")", "a"}}, {`a\,b`, []string{`a\`, "b"}}, {`\"a,b"`, []string{`\"a,b"`}}, {`a"b,c"d, e`, []string{`a"b,c"d`, "e"}}, {`(a)(b),c`, []string{"(a)(b)", "c"}}, {"\xff,\xfe", []string{"\xff", "\xfe"}}, {`\(a,b)`, []string{`\(a,b)`}},
+		{"),a", []string{")", "a"}}, {")(a,b)", []string{")(a,b)"}}, {`a\,b`, []string{`a\`, "b"}}, {`\"a,b"`, []string{`\"a,b"`}}, {`a"b,c"d, e`, []string{`a"b,c"d`, "e"}}, {`(a)(b),c`, []string{"(a)(b)", "c"}}, {"\xff,\xfe", []string{"\xff", "\xfe"}}, {`\(a,b)`, []string{`\(a,b)`}},
 		{"a\n,b", []string{"a\n", "b"}}, {`(\\),a`, []string{`(\\)`, "a"}},
 	} {
 		if got, ok := Split(c.in); !slices.Equal(got, c.want) || !ok {

@@ -65,12 +65,15 @@ var built = []struct{ name, ways string }{
 // The Ways: each package has its own in what its exported functions reach.
 func TestWays(t *testing.T) {
 	for _, p := range built {
-		miss, err := WaysMissing("..", "abutment", []string{p.name}, strings.Fields(p.ways))
-		if err != nil {
-			t.Fatal(p.name, err)
-		}
-		for _, m := range miss {
-			t.Errorf("%s: way missing: %s", p.name, m)
-		}
+		t.Run(p.name, func(t *testing.T) {
+			t.Parallel()
+			miss, err := WaysMissing("..", "abutment", []string{p.name}, strings.Fields(p.ways))
+			if err != nil {
+				t.Fatal(err)
+			}
+			for _, m := range miss {
+				t.Errorf("way missing: %s", m)
+			}
+		})
 	}
 }
