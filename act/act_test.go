@@ -48,7 +48,7 @@ func TestRight(t *testing.T) {
 			e    api.Event
 			want string
 		}{
-			{api.Event{}, "1234567"}, {api.Event{Conn: api.Conn{Client: 15}}, "123457"}, {api.Event{Conn: api.Conn{Client: 16}}, ""}, {api.Event{Conn: api.Conn{Client: -1}}, ""},
+			{api.Event{}, "1234567"}, {api.Event{Conn: api.Conn{Client: 15}}, "123457"}, {api.Event{Conn: api.Conn{Client: 1}}, "123457"}, {api.Event{Conn: api.Conn{Client: 16}}, ""}, {api.Event{Conn: api.Conn{Client: -1}}, ""},
 			{api.Event{Conn: api.Conn{Origin: 1}}, "2345"}, {api.Event{Conn: api.Conn{Origin: 1000}}, "2345"}, {api.Event{Conn: api.Conn{Origin: 1001}}, ""}, {api.Event{Conn: api.Conn{Origin: -1}}, ""},
 			{api.Event{N: 1}, "456"}, {api.Event{N: api.MaxBody}, "456"}, {api.Event{N: api.MaxBody + 1}, "6"}, {api.Event{N: api.MaxTicks}, "6"}, {api.Event{N: api.MaxTicks + 1}, ""}, {api.Event{N: -1}, ""},
 			{api.Event{Text: "a"}, "2"}, {api.Event{Text: long}, "2"}, {api.Event{Text: long + "x"}, ""}, {api.Event{Text: "\x00\xff"}, "2"},

@@ -74,7 +74,7 @@ func TestClient(t *testing.T) {
 		{"to HTTP/1.0, another body", record(closing, passed+"ax$"), []Record{record(open, closes)}, Report{Asked: 1, Passed: 1, Answered: 1, Err: api.ErrValue}},
 		{"to HTTP/1.0, cut", record(closing, passed+"ab$"), []Record{record("HTTP/1.0 200 OK|Content-Length: 5||ab$", closes)}, Report{Asked: 1, Passed: 1, Answered: 1}},
 		{"another version", record(closing, strings.Replace(passed, "1.0 200", "1.1 200", 1)+"abc$"), []Record{record(open, closes)}, Report{Asked: 1, Passed: 1, Answered: 1, Err: api.ErrVersion}},
-		{"interim ones", record(ask, "HTTP/1.1 102 P|Via: 1.1 abutment||"+told), []Record{record("HTTP/1.1 103 Q||HTTP/1.1 102 P||"+answer, asked)}, Report{Asked: 1, Passed: 1, Answered: 1}},
+		{"interim ones", record(ask, "HTTP/1.1 199 P|Via: 1.1 abutment||"+told), []Record{record("HTTP/1.1 103 Q||HTTP/1.1 199 P||"+answer, asked)}, Report{Asked: 1, Passed: 1, Answered: 1}},
 		{"no HTTP to the client", record(ask, "x||"), []Record{record("", asked)}, Report{Asked: 1, Passed: 1, Err: api.ErrForm}},
 		{"no HTTP behind an answer", record(ask+ask, told+"x||"), []Record{record(answer, asked+asked)}, Report{Asked: 2, Passed: 2, Answered: 1, At: 1, Err: api.ErrForm}},
 		{"more than can be asked for", record(ask, told+told+"x"), []Record{record(answer+answer, asked+"GET / HTTP/1.1|Host: a||")}, Report{Asked: 1, Passed: 2, Answered: 2, At: 1, Err: api.ErrLong}},

@@ -185,6 +185,8 @@ var examples = []example{
 	{"the client doesn't go on", nil, "GET / HTTP/1.1|Host: a|Connection: close||GET / HTTP/1.1|Host: a||", []string{"HTTP/1.1 204 N||"}, []string{"HTTP/1.1 204 N|Via: 1.1 abutment|Connection: close||$", "GET / HTTP/1.1|Host: a|Via: 1.1 abutment||$"}},
 	{"HTTP/1.0 goes on", old, "GET / HTTP/1.0|Connection: keep-alive||GET / HTTP/1.0||", []string{"HTTP/1.0 200 OK|Connection: keep-alive|Content-Length: 0||HTTP/1.0 200 OK||x$"}, []string{"HTTP/1.0 200 OK|Via: 1.0 abutment|Content-Length: 0|Connection: keep-alive||HTTP/1.0 200 OK|Via: 1.0 abutment|Connection: close||x$", "GET / HTTP/1.0|Via: 1.0 abutment|Connection: keep-alive||GET / HTTP/1.0|Via: 1.0 abutment|Connection: keep-alive||$"}},
 	{"HEAD", nil, "HEAD / HTTP/1.1|Host: a||", []string{"HTTP/1.1 200 OK|Content-Length: 5||"}, []string{"HTTP/1.1 200 OK|Via: 1.1 abutment|Content-Length: 5||", "HEAD / HTTP/1.1|Host: a|Via: 1.1 abutment||"}},
+	{"GET behind HEAD", nil, "HEAD / HTTP/1.1|Host: a||GET / HTTP/1.1|Host: a||", []string{"HTTP/1.1 200 OK|Content-Length: 5||HTTP/1.1 100 C||HTTP/1.1 200 OK|Content-Length: 1||x"}, []string{"HTTP/1.1 200 OK|Via: 1.1 abutment|Content-Length: 5||HTTP/1.1 100 C|Via: 1.1 abutment||HTTP/1.1 200 OK|Via: 1.1 abutment|Content-Length: 1||x", "HEAD / HTTP/1.1|Host: a|Via: 1.1 abutment||GET / HTTP/1.1|Host: a|Via: 1.1 abutment||"}},
+	{"an interim one to HEAD", nil, "HEAD / HTTP/1.1|Host: a||GET / HTTP/1.1|Host: a||", []string{"HTTP/1.1 199 C||HTTP/1.1 200 OK|Content-Length: 5||HTTP/1.1 204 N||"}, []string{"HTTP/1.1 199 C|Via: 1.1 abutment||HTTP/1.1 200 OK|Via: 1.1 abutment|Content-Length: 5||HTTP/1.1 204 N|Via: 1.1 abutment||", "HEAD / HTTP/1.1|Host: a|Via: 1.1 abutment||GET / HTTP/1.1|Host: a|Via: 1.1 abutment||"}},
 	{"interim ones", nil, "GET / HTTP/1.1|Host: a||", []string{"HTTP/1.1 102 P|A: b||HTTP/1.1 100 C||HTTP/1.1 204 N||"}, []string{"HTTP/1.1 102 P|A: b|Via: 1.1 abutment||HTTP/1.1 100 C|Via: 1.1 abutment||HTTP/1.1 204 N|Via: 1.1 abutment||", "GET / HTTP/1.1|Host: a|Via: 1.1 abutment||"}},
 	{"interim ones to HTTP/1.0", nil, "GET http://a/ HTTP/1.0||", []string{"HTTP/1.1 102 P||HTTP/1.1 204 N||"}, []string{"HTTP/1.0 204 N|Via: 1.1 abutment|Connection: close||$", "GET / HTTP/1.1|Host: a|Via: 1.0 abutment||$"}},
 	{"as many interim ones as may be", func(c *api.Config) { c.Interim = 1 }, "GET / HTTP/1.1|Host: a||GET / HTTP/1.1|Host: a||", []string{"HTTP/1.1 102 P||HTTP/1.1 204 N||HTTP/1.1 103 P||HTTP/1.1 102 P||"}, []string{"HTTP/1.1 102 P|Via: 1.1 abutment||HTTP/1.1 204 N|Via: 1.1 abutment||HTTP/1.1 103 P|Via: 1.1 abutment||HTTP/1.1 502 Bad Gateway|" + refused, "GET / HTTP/1.1|Host: a|Via: 1.1 abutment||GET / HTTP/1.1|Host: a|Via: 1.1 abutment||$"}},
@@ -392,4 +394,31 @@ func TestNow(t *testing.T) {
 	if s := k.Take(1000); !strings.Contains(s, "Date: Sun, 06 Nov 1994 08:49:37 GMT") {
 		t.Errorf("%q", s)
 	}
+}
+
+// P39.6: what a step tells.
+func TestStep(t *testing.T) {
+	k, o := link.New(1000), link.New(1000)
+	b := New(config.Usual(), k)
+	told := func(phase int) {
+		t.Helper()
+		if !b.Step(0) || b.Step(0) || b.Phase() != phase {
+			t.Error(b.Phase(), phase)
+		}
+	}
+	k.Give("G")
+	told(Asking)
+	k.Give(lines("ET / HTTP/1.1|Host: a||"))
+	told(Dialing)
+	b.Attach(o)
+	if !b.Step(0) || b.Phase() != Sending { // the head is written
+		t.Error(b.Phase())
+	}
+	told(Answering)
+	o.End()
+	told(Closed)
+	n := link.New(1000)
+	b = New(config.Usual(), n)
+	n.End()
+	told(Closed)
 }

@@ -56,6 +56,11 @@ func TestResponse(t *testing.T) {
 			t.Error("changed")
 		}
 	}
+	for minor, want := range map[int]int{-1: 0, 0: 0, 1: 1, 2: 1, 9: 1} {
+		if got := Response(response(t, "HTTP/1.1 200 OK"), none, minor, true, config.Usual(), 0).Minor; got != want {
+			t.Error(minor, got)
+		}
+	}
 	h := response(t, "HTTP/1.1 200 OK")
 	h.Method, h.Target = "GET", "/"
 	if got := Response(h, closing, 1, true, config.Usual(), 0); got.Method != "" || got.Target != "" {

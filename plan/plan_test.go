@@ -18,7 +18,7 @@ func TestRequest(t *testing.T) {
 		f        api.Frame
 		old, new api.Out
 	}{
-		{api.Frame{}, api.Out{}, api.Out{}}, {api.Frame{Kind: api.Sized, Length: 7}, api.Out{Frame: api.Frame{Kind: api.Sized, Length: 7}}, api.Out{Frame: api.Frame{Kind: api.Sized, Length: 7}}}, {chunked, keep, api.Out{Frame: chunked}}, {closing, api.Out{}, api.Out{}}, {api.Frame{Kind: 4, Length: 3}, api.Out{}, api.Out{}}, {api.Frame{Kind: -1}, api.Out{}, api.Out{}},
+		{api.Frame{}, api.Out{}, api.Out{}}, {api.Frame{Length: 5}, api.Out{Frame: api.Frame{Length: 5}}, api.Out{Frame: api.Frame{Length: 5}}}, {api.Frame{Kind: api.Sized, Length: 7}, api.Out{Frame: api.Frame{Kind: api.Sized, Length: 7}}, api.Out{Frame: api.Frame{Kind: api.Sized, Length: 7}}}, {chunked, keep, api.Out{Frame: chunked}}, {closing, api.Out{}, api.Out{}}, {api.Frame{Kind: 4, Length: 3}, api.Out{}, api.Out{}}, {api.Frame{Kind: -1}, api.Out{}, api.Out{}},
 	} {
 		for _, minor := range []int{-1, 0, 1, 2} {
 			want := c.old
@@ -38,7 +38,7 @@ func TestResponse(t *testing.T) {
 		f                api.Frame
 		old, stream, new api.Out
 	}{
-		{api.Frame{}, api.Out{}, api.Out{}, api.Out{}}, {api.Frame{Kind: api.Sized, Length: 7}, api.Out{Frame: api.Frame{Kind: api.Sized, Length: 7}}, api.Out{Frame: api.Frame{Kind: api.Sized, Length: 7}}, api.Out{Frame: api.Frame{Kind: api.Sized, Length: 7}}},
+		{api.Frame{}, api.Out{}, api.Out{}, api.Out{}}, {api.Frame{Length: 5}, api.Out{Frame: api.Frame{Length: 5}}, api.Out{Frame: api.Frame{Length: 5}}, api.Out{Frame: api.Frame{Length: 5}}}, {api.Frame{Kind: api.Sized, Length: 7}, api.Out{Frame: api.Frame{Kind: api.Sized, Length: 7}}, api.Out{Frame: api.Frame{Kind: api.Sized, Length: 7}}, api.Out{Frame: api.Frame{Kind: api.Sized, Length: 7}}},
 		{chunked, keep, api.Out{Frame: closing}, api.Out{Frame: chunked}}, {closing, api.Out{Frame: closing}, api.Out{Frame: closing}, api.Out{Frame: chunked, Chunk: 9}}, {api.Frame{Kind: 4, Length: 3}, api.Out{}, api.Out{}, api.Out{}}, {api.Frame{Kind: -1}, api.Out{}, api.Out{}, api.Out{}},
 	} {
 		for _, minor := range []int{-1, 0, 1, 2} {

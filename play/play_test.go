@@ -79,6 +79,11 @@ func TestStep(t *testing.T) {
 // P46.1, P46.2: a nil world, and a plain one.
 func TestNothing(t *testing.T) {
 	for _, w := range []*World{nil, {}} {
+		for op := range 9 {
+			if got := w.Step(api.Event{Op: op}); got != "error 1" {
+				t.Error(op, got)
+			}
+		}
 		if w.Step(api.Event{Op: act.OpOpen}) != "error 1" || w.Step(api.Event{}) != "error 1" || w.Drain() != 0 || len(w.Sents()) != 0 {
 			t.Error("nothing")
 		}

@@ -211,6 +211,12 @@ func TestSpare(t *testing.T) {
 		t.Error("a request has begun")
 	}
 	p.Send(conn(0, 1), lines(answer))
+	p.Read(conn(0, 1), 100)
+	for p.Serve(0) {
+	}
+	if !p.Serve(3) || p.Sent(conn(3, 0)).Closed || p.Live() != 2 {
+		t.Error("not told")
+	}
 	p.Drain(100)
 	if p.Phase(3) != bridge.Answering || !p.Sent(conn(0, 1)).Closed || p.Live() != 2 {
 		t.Error("one to spare")
@@ -269,6 +275,24 @@ func TestDrain(t *testing.T) {
 	}
 	if p.Drain(2) != 2 || p.Phase(0) != bridge.Asking {
 		t.Error("two")
+	}
+	for _, k := range []api.Conn{conn(0, 0), conn(0, 1)} { // one octet is enough, and nothing is served
+		q := New(config.Usual(), 0)
+		q.Open(0)
+		q.Send(conn(0, 1), lines(answer))
+		ask(q, 0, "a")
+		if k.Origin == 1 {
+			q.Send(k, "x")
+		} else {
+			q.Send(k, "y\n")
+			q.Read(k, 9)
+			for q.Serve(0) {
+			}
+			q.Grant(k, 102)
+		}
+		if n := q.Drain(9); n != 1 {
+			t.Error(k, n, len(q.Sent(k).Text))
+		}
 	}
 	if n := p.Drain(1000); n < 5 || n > 20 || p.Drain(1000) != 0 || p.Phase(0) != bridge.Answering {
 		t.Error(n)

@@ -11,6 +11,9 @@ import (
 
 // P33.1, P33.3
 func TestStatus(t *testing.T) {
+	if Asker != 1 || Origin != 2 {
+		t.Error("sides")
+	}
 	asker := map[api.Errno]int{api.ErrSlow: 408, api.ErrFull: 413, api.ErrExpect: 417, api.ErrLong: 431, api.ErrMethod: 501, api.ErrCoding: 501, api.ErrVersion: 505, api.ErrLoop: 508}
 	for e := api.Errno(-2); e < 30; e++ {
 		want := 400

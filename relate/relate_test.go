@@ -179,7 +179,7 @@ func TestResponse(t *testing.T) {
 // P47.3
 func TestRefusal(t *testing.T) {
 	for _, now := range []int{0, 1 << 62} {
-		for _, status := range []int{400, 408, 413, 417, 431, 501, 502, 504, 505, 508} {
+		for _, status := range []int{400, 599, 408, 413, 417, 431, 501, 502, 504, 505, 508} {
 			for _, f := range []api.Frame{{}, {Kind: api.Sized}} {
 				if !Refusal(api.Message{Head: refusal.Head(status, 1, now), Frame: f}) {
 					t.Error(status, f)

@@ -89,6 +89,10 @@ func TestChunks(t *testing.T) {
 	r := New(api.Out{Frame: chunked.Frame, Chunk: -4}, -1, 1)
 	put(t, r, size(2), nil, "2|", api.OK)
 	put(t, r, data("ab"), nil, "ab|", api.OK)
+	for range 2 { // octets of no chunk go as they are
+		put(t, r, data("c"), nil, "c", api.OK)
+		put(t, r, size(-1), nil, "", api.OK)
+	}
 }
 
 // P37.2: chunks of so many octets each.
@@ -106,6 +110,8 @@ func TestGathered(t *testing.T) {
 	if !s.Done() || s.Body() != "" || len(s.Merged()) != 0 {
 		t.Error("over")
 	}
+	one := New(api.Out{Frame: chunked.Frame, Chunk: 1}, 1, 1)
+	put(t, one, data("ab"), nil, "1|a|1|b|", api.OK)
 	e := New(api.Out{Frame: chunked.Frame, Chunk: math.MaxInt}, 1, 1)
 	put(t, e, over, nil, "0||", api.OK)
 }
